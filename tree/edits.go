@@ -68,9 +68,8 @@ func (t *Tree) remove(e api.Edit) error {
 	case !t.has(e.Node):
 		return api.ErrNode
 	}
-	// The whole branch is gathered first: with a node gone, those below it would lead nowhere.
-	for _, id := range t.branch(e.Node) {
-		delete(t.nodes, id)
+	for n := range t.branch(e.Node) {
+		delete(t.nodes, n.ID)
 	}
 	return nil
 }
@@ -96,15 +95,4 @@ func (t *Tree) inBranch(top, id int) bool {
 		id = t.nodes[id].Parent
 	}
 	return id == top
-}
-
-// branch gives top and all that lies below it, in no order.
-func (t *Tree) branch(top int) []int {
-	var ids []int
-	for id := range t.nodes {
-		if t.inBranch(top, id) {
-			ids = append(ids, id)
-		}
-	}
-	return ids
 }

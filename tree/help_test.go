@@ -4,6 +4,7 @@ import (
 	"errors"
 	"maps"
 	"math"
+	"slices"
 	"testing"
 
 	"orchard/api"
@@ -47,6 +48,46 @@ func wantNodes(t *testing.T, x *tree.Tree, want ...api.Node) {
 	}
 	if x.Len() != len(byID) {
 		t.Fatalf("Len() = %d, want %d", x.Len(), len(byID))
+	}
+}
+
+// told: one thing that All yields.
+type told struct {
+	node api.Node
+	deep int
+}
+
+func allOf(x *tree.Tree) []told {
+	var out []told
+	for n, deep := range x.All() {
+		out = append(out, told{n, deep})
+	}
+	return out
+}
+
+// wantAll: All yields these IDs, each with how many nodes it lies below, and the nodes are as Find tells them.
+func wantAll(t *testing.T, x *tree.Tree, want ...[2]int) {
+	t.Helper()
+	var got [][2]int
+	for _, one := range allOf(x) {
+		got = append(got, [2]int{one.node.ID, one.deep})
+		if n, ok := x.Find(one.node.ID); !ok || n != one.node {
+			t.Errorf("All yields %+v, Find tells %+v, %v", one.node, n, ok)
+		}
+	}
+	if !slices.Equal(got, want) {
+		t.Fatalf("All yields %v, want %v", got, want)
+	}
+}
+
+// wantSame: nobody can tell the two trees apart.
+func wantSame(t *testing.T, x, y *tree.Tree) {
+	t.Helper()
+	if a, b := nodesOf(x), nodesOf(y); !maps.Equal(a, b) || x.Len() != y.Len() {
+		t.Fatalf("the nodes are %v (%d) and %v (%d), want the same", a, x.Len(), b, y.Len())
+	}
+	if a, b := allOf(x), allOf(y); !slices.Equal(a, b) {
+		t.Fatalf("All yields %v and %v, want the same", a, b)
 	}
 }
 

@@ -1,8 +1,10 @@
 package tree_test
 
 import (
+	"cmp"
 	"errors"
 	"maps"
+	"slices"
 	"testing"
 
 	"orchard/api"
@@ -77,6 +79,29 @@ func (m *model) apply(e api.Edit) error {
 	return nil
 }
 
+// path: the Keys and IDs on the way from the root to a node. All tells the nodes in the order of these.
+func (m *model) path(id int) [][2]int {
+	var up [][2]int
+	for at := id; at != 0 && len(up) < len(m.nodes); at = m.nodes[at].Parent {
+		up = append(up, [2]int{m.nodes[at].Key, at})
+	}
+	slices.Reverse(up)
+	return up
+}
+
+// all: what All must yield.
+func (m *model) all() []told {
+	var out []told
+	for _, id := range slices.SortedFunc(maps.Keys(m.nodes), func(a, b int) int {
+		return slices.CompareFunc(m.path(a), m.path(b), func(x, y [2]int) int {
+			return cmp.Or(cmp.Compare(x[0], y[0]), cmp.Compare(x[1], y[1]))
+		})
+	}) {
+		out = append(out, told{m.nodes[id], len(m.path(id))})
+	}
+	return out
+}
+
 // agree does an edit to both, and holds answers and nodes against each other.
 func agree(t *testing.T, x *tree.Tree, m *model, e api.Edit) error {
 	t.Helper()
@@ -93,6 +118,9 @@ func agree(t *testing.T, x *tree.Tree, m *model, e api.Edit) error {
 	}
 	if got := nodesOf(x); !maps.Equal(got, m.nodes) {
 		t.Fatalf("%+v: the nodes are %v, want %v", e, got, m.nodes)
+	}
+	if got := allOf(x); !slices.Equal(got, m.all()) {
+		t.Fatalf("%+v: All yields %v, want %v", e, got, m.all())
 	}
 	return reason
 }
@@ -171,5 +199,8 @@ func shortRow(t *testing.T, row []api.Edit) {
 	}
 	if x.Len() != len(m.nodes) {
 		t.Fatalf("%+v: Len() = %d, want %d", row, x.Len(), len(m.nodes))
+	}
+	if got := allOf(x); !slices.Equal(got, m.all()) {
+		t.Fatalf("%+v: All yields %v, want %v", row, got, m.all())
 	}
 }

@@ -1,7 +1,11 @@
 // Package tree: nodes that lie below one another: see DOC.md.
 package tree
 
-import "orchard/api"
+import (
+	"maps"
+
+	"orchard/api"
+)
 
 // Tree is a root, and what lies below it.
 type Tree struct {
@@ -32,8 +36,10 @@ func (t *Tree) Len() int { return len(t.nodes) }
 
 // All goes through the nodes, each ahead of those below it, and how deep they lie (P5).
 func (t *Tree) All() func(yield func(api.Node, int) bool) {
-	return func(yield func(api.Node, int) bool) {}
+	return t.branch(rootID)
 }
 
 // Clone makes a tree that is the same (P5).
-func (t *Tree) Clone() *Tree { return nil }
+func (t *Tree) Clone() *Tree {
+	return &Tree{nodes: maps.Clone(t.nodes)}
+}
