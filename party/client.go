@@ -49,11 +49,13 @@ func (c *client) join() error {
 	return nil
 }
 
-// drop breaks nothing yet.
+// drop leaves a zero line, so that both ways are lost at once, and the server tells this client of no entry till it comes again.
+// What the client knows and waits for stays, and so do the server's answers: the next join goes on from there.
 func (c *client) drop() error {
 	if !c.line.joined {
 		return api.ErrJoined
 	}
+	c.line = line{}
 	return nil
 }
 

@@ -35,7 +35,7 @@ func begun(t *testing.T, clients, log int) *Party {
 	return p
 }
 
-// do: calls without an error, each as a letter and a client: j joins, u up, d down; c cuts the line.
+// do: calls without an error, each as a letter and a client: j joins, u up, d down; c cuts the line (Drop).
 func do(t *testing.T, p *Party, calls ...string) {
 	t.Helper()
 	for _, call := range calls {
@@ -49,7 +49,7 @@ func do(t *testing.T, p *Party, calls ...string) {
 		case 'd':
 			err = p.Down(client)
 		case 'c':
-			cut(p, client)
+			err = p.Drop(client)
 		default:
 			t.Fatalf("%s is no call", call)
 		}
@@ -58,9 +58,6 @@ func do(t *testing.T, p *Party, calls ...string) {
 		}
 	}
 }
-
-// cut breaks the line of a client, from outside: what was on its way is lost at both ends.
-func cut(p *Party, client int) { p.clients[client].line = line{} }
 
 // edit: the edits are let in.
 func edit(t *testing.T, p *Party, client int, edits ...api.Edit) {
@@ -218,6 +215,31 @@ func wantTold(t *testing.T, p *Party, client int, want ...int) {
 	if got := told(t, p, client); !slices.Equal(got, want) {
 		t.Fatalf("P10: the base of client %d was made of %v entries, one behind the other, want %v", client, got, want)
 	}
+}
+
+// risen lets all that a client has sent come to the server, and gives how many entries there were behind each message.
+func risen(p *Party, client int) []int {
+	var list []int
+	for p.Up(client) == nil {
+		list = append(list, servedBy(p).entries)
+	}
+	return list
+}
+
+func wantRisen(t *testing.T, p *Party, client int, want ...int) {
+	t.Helper()
+	if got := risen(p, client); !slices.Equal(got, want) {
+		t.Fatalf("P9: behind the messages of client %d there were %v entries, want %v", client, got, want)
+	}
+}
+
+// from: the numbers from one on to another; none, if that is less.
+func from(first, last int) []int {
+	var list []int
+	for n := first; n <= last; n++ {
+		list = append(list, n)
+	}
+	return list
 }
 
 // oddNumbers: far out of all bounds, either way.

@@ -8,7 +8,7 @@ import (
 	"orchard/tree"
 )
 
-// TestP9Example: the document's second example, as far as Drop.
+// TestP9Example: the document's second example.
 func TestP9Example(t *testing.T) {
 	p := begun(t, 2, 1)
 	do(t, p, "j0", "j1", "u0", "u1")
@@ -25,17 +25,11 @@ func TestP9Example(t *testing.T) {
 	wantFacts(t, p, 0, facts{base: grown(e), entries: 1, view: grown(e), answers: answered("+")})
 	do(t, p, "d0")
 	wantFacts(t, p, 0, facts{base: grown(e), entries: 2, view: grown(e), answers: answered("+")})
-	wantFacts(t, p, 1, facts{base: tree.New(), view: grown(e), pending: []api.Edit{e}})
-}
-
-// TestP9ExampleGoesOn: the rest of that example, by a line that is cut.
-func TestP9ExampleGoesOn(t *testing.T) {
-	p := begun(t, 2, 1)
-	do(t, p, "j0", "j1", "u0", "u1")
-	e := create(1, 0, 0)
-	edit(t, p, 0, e)
-	edit(t, p, 1, e)
-	do(t, p, "u0", "u1", "d0", "d0", "c1", "j1", "u1", "d1")
+	waits := facts{base: tree.New(), view: grown(e), pending: []api.Edit{e}}
+	wantFacts(t, p, 1, waits)
+	do(t, p, "c1", "j1", "u1")
+	wantFacts(t, p, 1, waits)
+	do(t, p, "d1") // a snapshot
 	want := facts{base: grown(e), entries: 2, view: grown(e), answers: answered("-")}
 	wantFacts(t, p, 1, want)
 	do(t, p, "u1") // its edit comes again
@@ -147,10 +141,7 @@ func TestP9Comes(t *testing.T) {
 			own := create(500, late/2, 1)
 			edit(t, p, 1, own)
 			do(t, p, "j1", "u1")
-			var want []int
-			for n := 1; n <= late; n++ {
-				want = append(want, n)
-			}
+			want := from(1, late)
 			if late > log {
 				want = []int{late}
 			}

@@ -84,9 +84,13 @@ func (m *model) join(client int) error {
 	return nil
 }
 
-func (m *model) cut(client int) {
+func (m *model) drop(client int) error {
 	c := &m.clients[client]
+	if !c.joined {
+		return api.ErrJoined
+	}
 	c.joined, c.told, c.up, c.down = false, false, nil, nil
+	return nil
 }
 
 func (m *model) upward(client int) error {
@@ -144,19 +148,23 @@ type walk struct {
 	seen   map[string]int // what came to pass, lest the walk be a short one
 }
 
-// anyEdit: few nodes, so that edits get into each other's way; now and then a wrong one.
-func (w *walk) anyEdit() api.Edit {
-	e := api.Edit{Kind: 1 + w.chance.IntN(4), Node: w.chance.IntN(8), Parent: w.chance.IntN(8), Key: w.chance.IntN(3), Prop: w.chance.IntN(4), Value: w.chance.IntN(9)}
-	switch w.chance.IntN(30) {
+// anyEdit: few nodes, so that edits get into each other's way, and few deletes, so that trees grow; now and then a wrong one.
+func anyEdit(chance *rand.Rand) api.Edit {
+	kinds := []int{api.Create, api.Create, api.Create, api.Create, api.Move, api.Move, api.Move, api.Move, api.Delete, api.Set, api.Set}
+	e := api.Edit{Kind: kinds[chance.IntN(len(kinds))], Node: chance.IntN(8), Parent: chance.IntN(8), Key: chance.IntN(3), Prop: chance.IntN(4), Value: chance.IntN(9)}
+	if chance.IntN(3) == 0 {
+		e.Parent = 0
+	}
+	switch chance.IntN(30) {
 	case 0:
-		e.Kind = 9 - 10*w.chance.IntN(2)
+		e.Kind = 9 - 10*chance.IntN(2)
 	case 1:
 		e.Key, e.Value = -1, -1
 	}
 	return e
 }
 
-func (w *walk) step(t *testing.T, cuts bool) {
+func (w *walk) step(t *testing.T, drops bool) {
 	t.Helper()
 	client := w.chance.IntN(len(w.m.clients))
 	var what string
@@ -164,14 +172,12 @@ func (w *walk) step(t *testing.T, cuts bool) {
 	var got, want error
 	switch k := w.chance.IntN(100); {
 	case k < 30:
-		e = w.anyEdit()
+		e = anyEdit(w.chance)
 		what, got, want = "Edit", w.p.Edit(client, e), w.m.edit(client, e)
 	case k < 38:
 		what, got, want = "Join", w.p.Join(client), w.m.join(client)
-	case k < 42 && cuts:
-		cut(w.p, client)
-		w.m.cut(client)
-		what = "cut"
+	case k < 42 && drops:
+		what, got, want = "Drop", w.p.Drop(client), w.m.drop(client)
 	case k < 70:
 		w.look(client)
 		what, got, want = "Up", w.p.Up(client), w.m.upward(client)
@@ -224,7 +230,7 @@ func (w *walk) hold(t *testing.T, what string, got, want error, e api.Edit) {
 	}
 }
 
-func walkAll(t *testing.T, cuts bool) map[string]int {
+func walkAll(t *testing.T, drops bool) map[string]int {
 	t.Helper()
 	seen := map[string]int{}
 	for clients := 1; clients <= api.MaxClients; clients++ {
@@ -232,7 +238,7 @@ func walkAll(t *testing.T, cuts bool) map[string]int {
 			w := walk{rand.New(rand.NewPCG(uint64(clients), uint64(log))), begun(t, clients, log),
 				&model{log: log, clients: make([]modelClient, clients)}, seen}
 			for range 300 {
-				w.step(t, cuts)
+				w.step(t, drops)
 			}
 		}
 	}
@@ -248,7 +254,7 @@ func wantSeen(t *testing.T, seen map[string]int, things ...string) {
 	}
 }
 
-// everyday: what a walk comes across, be lines cut or not.
+// everyday: what a walk comes across, be there drops or not.
 func everyday() []string {
 	list := []string{"comes, with nothing behind", "comes, entries", "comes, snapshot", "Edit <nil>", "Join <nil>", "Up <nil>", "Down <nil>"}
 	for what, reasons := range map[string][]error{"Edit": {api.ErrArg, api.ErrQueue}, "Join": {api.ErrJoined}, "Up": {api.ErrNone}, "Down": {api.ErrNone}} {
@@ -263,6 +269,6 @@ func TestP7ToP11Walks(t *testing.T) {
 	wantSeen(t, walkAll(t, false), everyday()...)
 }
 
-func TestP9P10WalksWithCuts(t *testing.T) {
-	wantSeen(t, walkAll(t, true), append(everyday(), "comes, snapshot with answers", "edit again")...)
+func TestP8ToP10WalksWithDrops(t *testing.T) {
+	wantSeen(t, walkAll(t, true), append(everyday(), "Drop <nil>", fmt.Sprint("Drop ", api.ErrJoined), "comes, snapshot with answers", "edit again")...)
 }

@@ -107,12 +107,24 @@ func wantAlike(t *testing.T, p, q *Party) {
 			func(p *Party) error { return p.Down(c) },
 			func(p *Party) error { return p.Up(c) },
 			func(p *Party) error { return p.Edit(c, create(20+step, 0, step)) },
+			func(p *Party) error { return breakAndMend(p, c, step) },
 		} {
 			if a, b := call(p), call(q); (a == nil) != (b == nil) {
 				t.Fatalf("step %d: %v, want %v", step, a, b)
 			}
 		}
 	}
+}
+
+// breakAndMend drops a client at some steps, and lets it join again at others, be it time for that or not.
+func breakAndMend(p *Party, c, step int) error {
+	switch step % 5 {
+	case 2:
+		return p.Drop(c)
+	case 4:
+		return p.Join(c)
+	}
+	return nil
 }
 
 // TestP1OutIsOfThen: what came out stays as it was, while the party goes on.
